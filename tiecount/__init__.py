@@ -1,0 +1,1 @@
+"""Tiecount: webs by how many ties each point has."""
