@@ -1,21 +1,13 @@
 import unittest
 from itertools import combinations, permutations, product
 
-from odd_things import odd_things
+from odd_things import bad_counts, odd_things
 from tiecount.counts import need_counts, wanted
 from tiecount.errors import BadCounts, BadMany
 
 GOOD_COUNTS = [
     [0], [1], [20], [0] * 10, [20] * 10, list(range(10)), list(range(11, 21)), [3, 0, 20], [2, 2, 2],
 ]
-
-
-def bad_counts():
-    """A new list of things that are no counts."""
-    bad = odd_things() + [[], [0] * 11, [20] * 11, [1] * 1000, (), (1,), (1, 2, 3), 0, 1, 10]
-    for wrong in odd_things() + [-1, 21, -20, 10 ** 30, -10 ** 30, (1,), [1], []]:
-        bad += [[wrong], [wrong, 1, 2], [1, wrong, 2], [1, 2, wrong], [1] * 9 + [wrong]]
-    return bad
 
 
 def bad_manys(length):

@@ -6,10 +6,17 @@ from pathlib import Path
 
 FOLDER = Path(__file__).resolve().parent.parent / "tiecount"
 
-INTERFACE = {
-    "errors.py": ["TieError", "BadCounts", "BadMany", "BadWeb", "BadExchange", "Unlike", "NoWeb"],
-    "counts.py": ["need_counts", "wanted"],
-    "webs.py": ["need_web", "counts_of", "pieces"],
+CLASSES = ["TieError", "BadCounts", "BadMany", "BadWeb", "BadExchange", "Unlike", "NoWeb"]
+
+FUNCTIONS = {
+    "counts.py": {"need_counts": ["thing"], "wanted": ["counts", "many"]},
+    "webs.py": {"need_web": ["size", "ties"], "counts_of": ["size", "ties"], "pieces": ["size", "ties"]},
+    "exchanges.py": {
+        "may": ["size", "ties", "thing"], "done": ["size", "ties", "exchange"], "exchanges": ["size", "ties"],
+    },
+    "telling.py": {"told": ["counts"]},
+    "ways.py": {"way": ["size", "one", "other"]},
+    "hanging.py": {"hung": ["counts"], "joining": ["size", "ties"]},
 }
 
 # No clock, chance, files or network can be reached without one of these or an import.
@@ -30,12 +37,17 @@ class Package(unittest.TestCase):
         for path in files():
             self.assertTrue(path.is_file() and path.suffix == ".py", path.name)
 
-    def test_each_name_is_defined_in_its_file(self):
-        for name, expected in INTERFACE.items():
-            nodes = tree_of(FOLDER / name).body
-            defined = [node.name for node in nodes if isinstance(node, (ast.FunctionDef, ast.ClassDef))]
-            for word in expected:
-                self.assertIn(word, defined, name)
+    def test_each_class_is_defined_in_its_file(self):
+        defined = [node.name for node in tree_of(FOLDER / "errors.py").body if isinstance(node, ast.ClassDef)]
+        for name in CLASSES:
+            self.assertIn(name, defined)
+
+    def test_each_function_is_defined_in_its_file_with_its_arguments(self):
+        for file, expected in FUNCTIONS.items():
+            defined = {node.name: ast.unparse(node.args) for node in tree_of(FOLDER / file).body
+                       if isinstance(node, ast.FunctionDef)}
+            for name, arguments in expected.items():
+                self.assertEqual(defined.get(name), ", ".join(arguments), (file, name))
 
     def test_imports_are_from_the_package_only(self):
         for path in files():

@@ -1,63 +1,11 @@
 import unittest
-from itertools import combinations
 
-from odd_things import odd_things
+from odd_things import bad_sizes, bad_ties, odd_things
+from small_webs import all_ties, all_webs, counts_by_looking, pieces_by_walking
 from tiecount.errors import BadWeb
 from tiecount.webs import counts_of, need_web, pieces
 
 ASKED = [need_web, counts_of, pieces]
-
-
-def all_ties(size):
-    """All the ties that there can be, rising."""
-    return list(combinations(range(size), 2))
-
-
-def all_webs(size):
-    """The ties of every web of a size, rising."""
-    room = all_ties(size)
-    for picked in range(2 ** len(room)):
-        yield [tie for at, tie in enumerate(room) if picked >> at & 1]
-
-
-def counts_by_looking(size, ties):
-    return [len([tie for tie in ties if point in tie]) for point in range(size)]
-
-
-def pieces_by_walking(size, ties):
-    """Walks along the ties from each point that was not yet met."""
-    told, met = [], set()
-    for start in range(size):
-        if start in met:
-            continue
-        piece, ahead = {start}, [start]
-        while ahead:
-            here = ahead.pop()
-            for tie in ties:
-                if here in tie:
-                    there = tie[0] + tie[1] - here
-                    if there not in piece:
-                        piece.add(there)
-                        ahead.append(there)
-        met |= piece
-        told.append(sorted(piece))
-    return told
-
-
-def bad_sizes():
-    return odd_things() + [0, -1, 11, 12, -10, 10 ** 30, [3], (3,), []]
-
-
-def bad_ties():
-    """A new list of things that are no tie in a web of four points."""
-    bad = odd_things() + [
-        0, 1, (), (0,), (1,), (0, 1, 2), (0, 1, 1), ((0, 1),), [0, 1], [], [0, 1, 2], "01", b"\x00\x01",
-        (1, 0), (3, 2), (0, 0), (3, 3), (0, 4), (3, 4), (4, 5), (4, 4), (-1, 0), (-1, 2), (-2, -1), (0, -1),
-        (0, 10 ** 30), (-10 ** 30, 0),
-    ]
-    for wrong in odd_things() + [(0,), [0], []]:
-        bad += [(wrong, 2), (0, wrong), (wrong, wrong)]
-    return bad
 
 
 class WhatIsRefused(unittest.TestCase):

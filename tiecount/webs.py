@@ -38,6 +38,15 @@ def counts_of(size, ties):
     return counts
 
 
+def tied_rows(size, ties):
+    """For each point of a good web a row with 1 for the points that it is tied to, else 0."""
+    rows = [[0] * size for _ in range(size)]
+    for low, high in ties:
+        rows[low][high] = 1
+        rows[high][low] = 1
+    return rows
+
+
 def pieces(size, ties):
     """The points that hang together, piece by piece."""
     need_web(size, ties)
