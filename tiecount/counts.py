@@ -9,7 +9,7 @@ MOST_TIES = 20
 def need_counts(thing):
     """Refuse what is no list of 1 to 10 whole numbers from 0 to 20."""
     # An exact list: a claimed or derived one may answer len and iteration at will.
-    if type(thing) != list:
+    if type(thing) is not list:
         raise BadCounts("counts are a list")
     if not is_whole(len(thing), 1, MOST_POINTS):
         raise BadCounts("there are 1 to 10 counts")

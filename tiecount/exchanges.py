@@ -41,7 +41,7 @@ def exchanges(size, ties):
 def _are_four_points(size, thing):
     """Whether a thing, of any kind, is a tuple of four unlike points."""
     # An exact tuple: a claimed or derived one may answer len and iteration at will.
-    if type(thing) != tuple or len(thing) != 4:
+    if type(thing) is not tuple or len(thing) != 4:
         return False
     for point in thing:
         if not is_whole(point, 0, size - 1):

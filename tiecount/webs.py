@@ -9,7 +9,7 @@ def need_web(size, ties):
     if not is_whole(size, 1, MOST_POINTS):
         raise BadWeb("a size is a whole number from 1 to 10")
     # An exact list: a claimed or derived one may answer iteration at will.
-    if type(ties) != list:
+    if type(ties) is not list:
         raise BadWeb("ties are a list")
     seen = set()
     for tie in ties:
@@ -22,7 +22,7 @@ def need_web(size, ties):
 
 def _is_tie(size, thing):
     """Whether a thing, of any kind, can be a tie in a web of a good size."""
-    if type(thing) != tuple or len(thing) != 2:
+    if type(thing) is not tuple or len(thing) != 2:
         return False
     low, high = thing
     return is_whole(high, 1, size - 1) and is_whole(low, 0, high - 1)
